@@ -35,3 +35,30 @@ func each[T any](l []T, one func(x T) T) []T {
 	}
 	return all
 }
+
+// Call is the same call.
+func Call(c api.Call) api.Call {
+	c.Ctx = Ctx(c.Ctx)
+	return c
+}
+
+// Answer is the same answer.
+func Answer(a api.Answer) api.Answer {
+	return api.Answer{Err: a.Err, Sibs: slices.Clone(a.Sibs), Ctx: Ctx(a.Ctx), Keys: slices.Clone(a.Keys), Dot: a.Dot}
+}
+
+// Deeds are the same deeds.
+func Deeds(l []api.Deed) []api.Deed {
+	return each(l, func(d api.Deed) api.Deed {
+		d.Call, d.Answer = Call(d.Call), Answer(d.Answer)
+		return d
+	})
+}
+
+// Events are the same events.
+func Events(l []api.Event) []api.Event {
+	return each(l, func(e api.Event) api.Event {
+		e.Call = Call(e.Call)
+		return e
+	})
+}
