@@ -18,7 +18,7 @@ func sib(node string, n int, value string, time int) api.Sib {
 	return api.Sib{Dot: api.Dot{Node: node, N: n}, Value: value, Time: time}
 }
 
-func gone(node string, n, time int) api.Sib {
+func dead(node string, n, time int) api.Sib {
 	return api.Sib{Dot: api.Dot{Node: node, N: n}, Gone: true, Time: time}
 }
 
@@ -53,14 +53,14 @@ func TestCheck(t *testing.T) {
 		obj(ctx),
 		obj(ctx, sib("a", 1, "", 0)),
 		obj(ctx, sib("a", 1, "x", 5), sib("a", 5, "y", 1), sib("b", 2, "z", api.MaxTime)),
-		obj(ctx, gone("b", 1, 4)),
+		obj(ctx, dead("b", 1, 4)),
 		obj(ctx, sib("b", 1, strings.Repeat("v", api.MaxValue), 0)),
 	} {
 		if e := Check(o); e != api.OK {
 			t.Error(k, e)
 		}
 	}
-	withValue := gone("a", 1, 0)
+	withValue := dead("a", 1, 0)
 	withValue.Value = "x"
 	for k, o := range []api.Obj{
 		obj([]api.Seen{seen("a", 0)}),
@@ -91,14 +91,14 @@ func TestNew(t *testing.T) {
 	}{
 		{nil, sib("a", 1, "x", 3), []api.Seen{seen("a", 1)}},
 		{[]api.Seen{seen("a", 1), seen("b", 2)}, sib("a", 2, "x", 3), []api.Seen{seen("a", 2), seen("b", 2)}},
-		{[]api.Seen{seen("b", 2)}, gone("a", 4, 3), []api.Seen{seen("a", 0, 4), seen("b", 2)}},
+		{[]api.Seen{seen("b", 2)}, dead("a", 4, 3), []api.Seen{seen("a", 0, 4), seen("b", 2)}},
 	} {
 		o, e := New(x.ctx, x.s)
 		if e != api.OK || !dots.Same(o.Ctx, x.want) || !slices.Equal(o.Sibs, []api.Sib{x.s}) {
 			t.Error(k, o, e)
 		}
 	}
-	withValue := gone("a", 1, 0)
+	withValue := dead("a", 1, 0)
 	withValue.Value = "x"
 	full := []api.Seen{seen("a", 0, gaps(2, 4096)...)}
 	for k, x := range []struct {
@@ -151,7 +151,7 @@ func TestMerge(t *testing.T) {
 
 func TestMergeKeepsTheGreaterOfOneDot(t *testing.T) {
 	ctx := []api.Seen{seen("a", 1)}
-	rising := []api.Sib{sib("a", 1, "z", 1), sib("a", 1, "", 2), gone("a", 1, 2), sib("a", 1, "a", 2), sib("a", 1, "ab", 2), sib("a", 1, "b", 2), sib("a", 1, "", 3)}
+	rising := []api.Sib{sib("a", 1, "z", 1), sib("a", 1, "", 2), dead("a", 1, 2), sib("a", 1, "a", 2), sib("a", 1, "ab", 2), sib("a", 1, "b", 2), sib("a", 1, "", 3)}
 	for k, x := range rising {
 		for m, y := range rising {
 			o, e := Merge(obj(ctx, x), obj(ctx, y))
@@ -199,12 +199,12 @@ func TestCovers(t *testing.T) {
 
 func TestReapAndSize(t *testing.T) {
 	ctx := []api.Seen{seen("a", 3, 5, 7), seen("b", 1)}
-	o := obj(ctx, gone("a", 1, 9), sib("a", 2, "abc", 1), gone("b", 1, 0))
+	o := obj(ctx, dead("a", 1, 9), sib("a", 2, "abc", 1), dead("b", 1, 0))
 	r, e := Reap(o)
 	if e != api.OK || !Same(r, obj(ctx, sib("a", 2, "abc", 1))) {
 		t.Error(r, e)
 	}
-	if r, e := Reap(obj(nil, gone("a", 1, 0))); e != api.ErrArg || !empty(r) {
+	if r, e := Reap(obj(nil, dead("a", 1, 0))); e != api.ErrArg || !empty(r) {
 		t.Error(r, e)
 	}
 	for want, x := range map[int]api.Obj{4*16 + 3*64 + 3: o, 0: {}, 16: obj([]api.Seen{seen("", -1)}), 128 + 5: obj(nil, sib("", 0, "ab", 0), sib("x", 1, "abc", 0))} {
@@ -219,7 +219,7 @@ func TestSame(t *testing.T) {
 	if !Same(o, obj([]api.Seen{seen("a", 3, []int{}...)}, sib("a", 1, "x", 1))) || !Same(api.Obj{}, obj([]api.Seen{}, []api.Sib{}...)) {
 		t.Error("the same are not")
 	}
-	for k, x := range []api.Obj{{}, obj(o.Ctx), obj(nil, o.Sibs...), obj([]api.Seen{seen("a", 2)}, o.Sibs...), obj(o.Ctx, sib("a", 2, "x", 1)), obj(o.Ctx, sib("b", 1, "x", 1)), obj(o.Ctx, sib("a", 1, "y", 1)), obj(o.Ctx, sib("a", 1, "x", 2)), obj(o.Ctx, gone("a", 1, 1)), obj(o.Ctx, o.Sibs[0], o.Sibs[0])} {
+	for k, x := range []api.Obj{{}, obj(o.Ctx), obj(nil, o.Sibs...), obj([]api.Seen{seen("a", 2)}, o.Sibs...), obj(o.Ctx, sib("a", 2, "x", 1)), obj(o.Ctx, sib("b", 1, "x", 1)), obj(o.Ctx, sib("a", 1, "y", 1)), obj(o.Ctx, sib("a", 1, "x", 2)), obj(o.Ctx, dead("a", 1, 1)), obj(o.Ctx, o.Sibs[0], o.Sibs[0])} {
 		if Same(o, x) || Same(x, o) {
 			t.Error(k)
 		}
@@ -238,7 +238,7 @@ func story(t *testing.T, r *rand.Rand) ([]api.Obj, map[api.Dot][]api.Seen) {
 			from, n := l[r.IntN(3)].Ctx, 1+k
 			s := sib(string(rune('a'+at)), n, fmt.Sprint(k), r.IntN(3))
 			if r.IntN(3) == 0 {
-				s = gone(s.Dot.Node, n, s.Time)
+				s = dead(s.Dot.Node, n, s.Time)
 			}
 			knew[s.Dot] = from
 			l[at] = make(Merge(l[at], make(New(from, s))))
@@ -278,7 +278,7 @@ func TestMergeDoesNotHangOnTheOrder(t *testing.T) {
 }
 
 func TestAnswersAreNewMemory(t *testing.T) {
-	a := obj([]api.Seen{seen("a", 1, 3), seen("b", 1)}, sib("a", 1, "x", 1), gone("b", 1, 2))
+	a := obj([]api.Seen{seen("a", 1, 3), seen("b", 1)}, sib("a", 1, "x", 1), dead("b", 1, 2))
 	room := a.Sibs[:1]
 	merged, _ := Merge(a, api.Obj{})
 	reaped, _ := Reap(a)
@@ -290,7 +290,7 @@ func TestAnswersAreNewMemory(t *testing.T) {
 		o.Sibs[0].Value = "changed"
 		_ = append(o.Sibs, api.Sib{})
 	}
-	if !Same(a, obj([]api.Seen{seen("a", 1, 3), seen("b", 1)}, sib("a", 1, "x", 1), gone("b", 1, 2))) {
+	if !Same(a, obj([]api.Seen{seen("a", 1, 3), seen("b", 1)}, sib("a", 1, "x", 1), dead("b", 1, 2))) {
 		t.Error(a)
 	}
 }
