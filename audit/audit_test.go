@@ -127,6 +127,19 @@ func TestPlacesThatLieElsewhere(t *testing.T) {
 	if got := Find(l, "t"); !slices.Equal(got, want) {
 		t.Error(got)
 	}
+	// Also where one alone is to keep it.
+	for k := range l {
+		l[k].Entries, _ = registry.Put(l[k].Entries, api.Entry{Key: "prop/t/b/n", Reg: api.Reg{N: 2, Value: "1"}})
+	}
+	one := plan.Keepers(l[0].Entries, "t", "b/k")[0]
+	other = stranger([]string{one})
+	for k := range l {
+		l[k].Book = api.Book{}
+	}
+	keep(l, obj("n1", 1, "x"), other, one)
+	if got := Find(l, "t"); !slices.Equal(got, []api.Finding{finding(api.FindStray, other, "b/k")}) {
+		t.Error(got)
+	}
 	// Where nobody is to keep it, nobody is a stray.
 	for k := range l {
 		l[k].Entries = nil

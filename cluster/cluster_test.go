@@ -185,6 +185,41 @@ func TestDeeds(t *testing.T) {
 	}
 }
 
+func TestRunIsStepByStep(t *testing.T) {
+	l := []api.Event{call("n1", "t", api.CallPut, "k", "v"), {Kind: api.EvFlush, Node: "n1", Lane: "t"}, {Kind: 99}, {Kind: api.EvDeliver, Lane: "t", N: 1}, {Kind: api.EvTick, Node: "n2"}, call("n2", "t", api.CallGet, "k", "")}
+	a, e := Run(setup(3), l)
+	if e != api.OK {
+		t.Fatal(e)
+	}
+	b := must(t, setup(3))
+	for _, x := range l {
+		b.Step(x)
+	}
+	if len(a.Deeds()) != 2 || !reflect.DeepEqual(a.Deeds(), b.Deeds()) || a.Under("t") != b.Under("t") || a.Under("t") != 5 {
+		t.Error(a.Deeds())
+	}
+}
+
+func TestBusy(t *testing.T) {
+	c := must(t, setup(2))
+	c.Step(api.Event{Kind: api.EvExchange, Node: "n1", To: "n2", Lane: "t"})
+	if !c.Busy("t") || c.Busy("u") || c.Busy("") {
+		t.Error("one message is under way")
+	}
+	c.Step(api.Event{Kind: api.EvLose, Lane: "t"})
+	if c.Busy("t") {
+		t.Error("no message is under way")
+	}
+	c.Step(call("n1", "t", api.CallPut, "k", "v"))
+	if !c.Busy("t") || c.Under("t") != 0 {
+		t.Error("something waits")
+	}
+	c.Step(api.Event{Kind: api.EvCrash, Node: "n1", N: 9})
+	if c.Busy("t") {
+		t.Error("somebody waits who is down")
+	}
+}
+
 func TestMessagesAreDeliveredLostAndDoubled(t *testing.T) {
 	c := must(t, setup(3))
 	c.Step(call("n1", "t", api.CallGet, "k", ""))

@@ -169,6 +169,90 @@ func TestSettled(t *testing.T) {
 	}
 }
 
+func TestOneKeeper(t *testing.T) {
+	c := made(t, 3, entry("prop/t/b/n", "1"))
+	c.Step(call("n1", "t", api.CallPut, "k", "v", nil))
+	Calm(c, "t")
+	if !Settled(c) {
+		t.Error("not settled")
+	}
+	// Its keeper is gone: somebody else is to keep it.
+	gone := api.Admin{Kind: api.AdminGone, Member: api.Member{Name: c.List("n1", "t", "b/k")[0].Node}}
+	c.Step(api.Event{Kind: api.EvAdmin, Node: "n1", Admin: gone})
+	Calm(c, "")
+	for _, node := range []string{"n2", "n3"} {
+		c.Step(api.Event{Kind: api.EvGossip, Node: "n1", To: node})
+		Calm(c, "")
+	}
+	if Settled(c) {
+		t.Error("it lies elsewhere")
+	}
+	Drive(c, 2)
+	if !Settled(c) {
+		t.Error("not settled")
+	}
+}
+
+// rounded is a fair round by the words, event by event; how many there were.
+func rounded(c *cluster.Cluster) int {
+	events := 0
+	step := func(e api.Event) {
+		c.Step(e)
+		events++
+	}
+	calm := func(lane string) {
+		for k := 0; k < 64 && c.Busy(lane); k++ {
+			for many := c.Under(lane); many > 0; many-- {
+				step(api.Event{Kind: api.EvDeliver, Lane: lane})
+			}
+			for _, node := range c.Nodes() {
+				if c.Up(node) {
+					step(api.Event{Kind: api.EvFlush, Node: node, Lane: lane})
+				}
+			}
+		}
+	}
+	for _, node := range c.Nodes() {
+		step(api.Event{Kind: api.EvStart, Node: node})
+	}
+	for _, lane := range append([]string{""}, c.Lanes()...) {
+		calm(lane)
+	}
+	each := func(kind int, lane string) {
+		for _, first := range c.Nodes() {
+			for _, other := range c.Nodes() {
+				if first != other {
+					step(api.Event{Kind: kind, Node: first, To: other, Lane: lane})
+					calm(lane)
+				}
+			}
+		}
+	}
+	each(api.EvGossip, "")
+	for _, lane := range c.Lanes() {
+		each(api.EvExchange, lane)
+	}
+	for _, lane := range c.Lanes() {
+		for _, node := range c.Nodes() {
+			step(api.Event{Kind: api.EvHand, Node: node, Lane: lane})
+		}
+		calm(lane)
+	}
+	return events
+}
+
+func TestARoundGoesByTheWords(t *testing.T) {
+	for k := range 20 {
+		seed, many := uint64(k), 2+k%3
+		a, b := made(t, many), made(t, many)
+		happen(a, rand.New(rand.NewPCG(seed, 1)), 150)
+		happen(b, rand.New(rand.NewPCG(seed, 1)), 150)
+		if x, y := Round(a), rounded(b); x != y || fmt.Sprint(a.Deeds()) != fmt.Sprint(b.Deeds()) {
+			t.Error(k, x, y)
+		}
+	}
+}
+
 // happen lets events happen at random; some of them change what is to be kept where.
 func happen(c *cluster.Cluster, r *rand.Rand, many int) {
 	ctx := map[string][]api.Seen{}

@@ -151,6 +151,8 @@ func TestCausal(t *testing.T) {
 		{[]api.Deed{with(read(5, 6, both, dot("x", 1)), func(d *api.Deed) { d.Done = false })}, true},
 		{[]api.Deed{with(read(5, 6, both, dot("x", 1)), func(d *api.Deed) { d.Answer.Err = api.ErrNone })}, true},
 		{[]api.Deed{with(read(5, 6, both, dot("x", 1)), func(d *api.Deed) { d.Call.Kind = api.CallList })}, true},
+		{[]api.Deed{a, b, with(read(5, 6, both, dot("a", 1)), func(d *api.Deed) { d.Answer.Err = api.ErrNone })}, true},
+		{[]api.Deed{a, b, with(read(5, 6, both, dot("a", 1)), func(d *api.Deed) { d.Call.Kind = api.CallList })}, true},
 		{[]api.Deed{with(a, func(d *api.Deed) { d.Call.Kind = api.CallDelete }), with(read(5, 6, ctxA, dot("a", 1)), func(d *api.Deed) { d.Answer.Sibs[0].Gone = true })}, false},
 	} {
 		if Causal(x.l) != x.want {

@@ -159,6 +159,13 @@ func TestWhatIsProvedIsChecked(t *testing.T) {
 			}
 		}
 	}
+	for bucket := range 64 {
+		own, beside := In(l, bucket), x.Prove(bucket)
+		// Whose ways lead to the root as well, but from elsewhere, and by fewer or more hashes.
+		if Check(x.Root(), bucket+64, own, beside) || Check(x.Root(), bucket-64, own, beside) || Check(x.At(1, bucket/32), bucket, own, beside[:5]) || Check(sha.Of([]string{x.Root(), "x"}), bucket, own, append(slices.Clone(beside), "x")) {
+			t.Error("a way that is none", bucket)
+		}
+	}
 	for _, bucket := range []int{-1, 64, math.MinInt, math.MaxInt} {
 		if len(x.Prove(bucket)) != 0 || Check(x.Root(), bucket, nil, x.Prove(0)) {
 			t.Error("no such bucket", bucket)

@@ -55,6 +55,15 @@ func TestAt(t *testing.T) {
 			t.Error(hundredths, got)
 		}
 	}
+	var long []int
+	for k := range 1001 {
+		long = append(long, k)
+	}
+	for hundredths, want := range map[int]int{-1: 0, 0: 0, 1: 10, 50: 500, 99: 990, 100: 1000, 101: 1000, math.MaxInt: 1000} {
+		if got := At(long, hundredths); got != want {
+			t.Error(hundredths, got)
+		}
+	}
 	if At(nil, 50) != 0 || At([]int{9}, 50) != 9 || At([]int{9, 8}, 99) != 9 {
 		t.Error("short lists")
 	}
@@ -63,6 +72,13 @@ func TestAt(t *testing.T) {
 func TestOfAndLanes(t *testing.T) {
 	want := api.Sum{Calls: 5, Done: 4, Counts: []api.Count{{Kind: 1, Err: 9, N: 1}, {Kind: 2, Err: 0, N: 1}, {Kind: 2, Err: 5, N: 2}}, Middle: 3, Longest: 10}
 	if got := Of(some(), "t"); !reflect.DeepEqual(got, want) {
+		t.Error(got)
+	}
+	var many []api.Deed
+	for k := range 201 {
+		many = append(many, deed("t", 1, 0, 0, k))
+	}
+	if got := Of(many, "t"); got.Middle != 100 || got.Longest != 200 {
 		t.Error(got)
 	}
 	if got := Of(some(), "v"); got.Calls != 0 || got.Done != 0 || len(got.Counts) != 0 || got.Middle != 0 || got.Longest != 0 {

@@ -12,10 +12,9 @@ type reader struct {
 	bad   bool
 }
 
-// word is the next word; nothing, if there is none.
+// word is the next word; nothing, which is no word, if there is none.
 func (r *reader) word() string {
 	if len(r.words) == 0 {
-		r.bad = true
 		return ""
 	}
 	w := r.words[0]
