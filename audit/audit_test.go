@@ -140,6 +140,13 @@ func TestPlacesThatLieElsewhere(t *testing.T) {
 	if got := Find(l, "t"); !slices.Equal(got, []api.Finding{finding(api.FindStray, other, "b/k")}) {
 		t.Error(got)
 	}
+	// What others than the first one know does not count.
+	for k := range l[1:] {
+		l[k+1].Entries = nil
+	}
+	if got := Find(l, "t"); !slices.Equal(got, []api.Finding{finding(api.FindEntries, "n2", ""), finding(api.FindEntries, "n3", ""), finding(api.FindStray, other, "b/k")}) {
+		t.Error(got)
+	}
 	// Where nobody is to keep it, nobody is a stray.
 	for k := range l {
 		l[k].Entries = nil

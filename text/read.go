@@ -73,16 +73,16 @@ func readCtx(w string) ([]api.Seen, bool) {
 	return c, true
 }
 
-// texts reads words into texts.
-func (r *reader) texts(l ...*string) {
-	for _, s := range l {
-		*s = r.text()
+// fill reads what is next, as one is read, into all of a row.
+func fill[T any](one func() T, row ...*T) {
+	for _, x := range row {
+		*x = one()
 	}
 }
 
 func (r *reader) event() api.Event {
 	e := api.Event{Kind: r.kind()}
-	r.texts(&e.Node, &e.To, &e.Lane)
+	fill(r.text, &e.Node, &e.To, &e.Lane)
 	e.N = r.number()
 	switch e.Kind {
 	case api.EvCall:
@@ -95,7 +95,7 @@ func (r *reader) event() api.Event {
 
 func (r *reader) call() api.Call {
 	c := api.Call{Kind: r.number()}
-	r.texts(&c.Token, &c.Bucket, &c.Key, &c.Value)
+	fill(r.text, &c.Token, &c.Bucket, &c.Key, &c.Value)
 	c.Ctx = r.ctx()
 	c.Time = r.number()
 	return c
@@ -103,9 +103,9 @@ func (r *reader) call() api.Call {
 
 func (r *reader) admin() api.Admin {
 	a := api.Admin{Kind: r.number()}
-	r.texts(&a.Tenant, &a.Bucket, &a.Field, &a.Text)
+	fill(r.text, &a.Tenant, &a.Bucket, &a.Field, &a.Text)
 	a.N = r.number()
-	r.texts(&a.Member.Name, &a.Member.Rack, &a.Member.Zone)
+	fill(r.text, &a.Member.Name, &a.Member.Rack, &a.Member.Zone)
 	a.Member.Up = r.state()
 	return a
 }
